@@ -52,11 +52,7 @@ func AddLease(list []Lease, x Lease) ([]Lease, bool) {
 	if !ValidLeases(list) {
 		return nil, false
 	}
-	var out []Lease
-	for _, y := range list {
-		out = append(out, y)
-	}
-	out = append(out, x)
+	out := append(copyLeases(list), x)
 	if !ValidLeases(out) {
 		return nil, false
 	}
@@ -99,6 +95,15 @@ func LeasedTime(list []Lease, owner int) int {
 		}
 	}
 	return sum
+}
+
+// copyLeases returns a copy of leases.
+func copyLeases(list []Lease) []Lease {
+	var out []Lease
+	for _, x := range list {
+		out = append(out, x)
+	}
+	return out
 }
 
 // validLease reports whether a lease is valid by itself.
